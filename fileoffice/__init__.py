@@ -1,1 +1,1 @@
-"""A file through the office: its texts taken apart into sentences, translated, brought over to newer versions."""
+"""A file through the office: its texts taken apart, translated, put together, brought over to newer versions."""

@@ -1,6 +1,6 @@
 """One file on its way through the office: its sentences, and what's done of them."""
 
-from fileoffice.lines import LINE_END, file_fault, is_kept, key_of, lines_of, text_of
+from fileoffice.lines import LINE_END, file_fault, file_of, is_kept, key_of, line_of, lines_of, texts_of
 from fileoffice.reading import IN_TEXT, fault_place
 from fileoffice.sentences import sentences_of
 from fileoffice.things import are_tags_right, tags_of, things_of
@@ -10,6 +10,7 @@ MOST_TRANSLATION_BYTES = 100
 
 NOT_BYTES = -1
 NO_SENTENCE = -2
+NO_KEY = -2
 NO_TRANSLATION = -4
 FIRST_FAULT = -1000
 
@@ -18,7 +19,8 @@ FIRST_FAULT = -1000
 # sentences in the file's order, translations in the order in which they were done.
 class Desk:
     def __init__(self):
-        self.key_count = 0
+        self.lines = lines_of([])
+        self.texts = {}
         self.sentences = {}
         self.translations = {}
 
@@ -35,11 +37,12 @@ class Desk:
         fault = file_fault(lines)
         if fault is not None:
             return [fault]
-        filled = [line for line in lines if not is_kept(line)]
-        sentences = numbered_sentences(filled)
+        texts = texts_of(lines)
+        sentences = numbered_sentences(texts)
         self.translations = self.brought_over(sentences) if is_newer else {}
+        self.lines = lines
+        self.texts = texts
         self.sentences = sentences
-        self.key_count = len(filled)
         return self.standing()
 
     # The translations of a newer version's sentences, in that version's order.
@@ -62,13 +65,21 @@ class Desk:
         return first
 
     def standing(self):
-        return [self.key_count, len(self.sentences), len(self.translations)]
+        return [len(self.texts), len(self.sentences), len(self.translations)]
 
     def list_sentences(self):
         answer = [len(self.sentences)]
         for spot, sentence in self.sentences.items():
             answer.extend(counted(spot[0]))
             answer.extend([spot[1], len(sentence), 1 if spot in self.translations else 0])
+        return answer
+
+    def list_undone(self):
+        undone = [spot for spot in self.sentences if spot not in self.translations]
+        answer = [len(undone)]
+        for spot in undone:
+            answer.extend(counted(spot[0]))
+            answer.append(spot[1])
         return answer
 
     def show_sentence(self, key, number):
@@ -90,6 +101,14 @@ class Desk:
         self.translations[spot] = tuple(translation)
         return self.standing()
 
+    def take_translation_away(self, key, number):
+        spot = (tuple(key), number)
+        # Only the file's own sentences are ever done, so this refuses what isn't there too.
+        if spot not in self.translations:
+            return [NO_SENTENCE]
+        self.translations.pop(spot)
+        return self.standing()
+
     # Why this can't be the translation of the sentence there, or None.
     def refusal_of(self, spot, translation):
         if not are_bytes(translation, MOST_TRANSLATION_BYTES):
@@ -103,16 +122,38 @@ class Desk:
             return FIRST_FAULT - place
         return None if is_translation(translation, self.sentences[spot]) else NO_TRANSLATION
 
+    def show_key(self, key):
+        known = tuple(key)
+        if known not in self.texts:
+            return [NO_KEY]
+        return counted(self.texts[known]) + counted(self.built_text(known))
+
+    def build_file(self):
+        return counted(file_of([self.built_line(line) for line in self.lines]))
+
+    def built_line(self, line):
+        if is_kept(line):
+            return line
+        key = key_of(line)
+        return line_of(key, self.built_text(key))
+
+    def built_text(self, key):
+        text = []
+        spot = (key, 0)
+        while spot in self.sentences:
+            text.extend(self.translations.get(spot, self.sentences[spot]))
+            spot = (key, spot[1] + 1)
+        return text
+
 
 def are_bytes(row, most):
     return len(row) <= most and all([number <= 255 for number in row])
 
 
-def numbered_sentences(lines):
+def numbered_sentences(texts):
     sentences = {}
-    for line in lines:
-        key = key_of(line)
-        for number, sentence in enumerate(sentences_of(text_of(line))):
+    for key, text in texts.items():
+        for number, sentence in enumerate(sentences_of(text)):
             sentences[(key, number)] = sentence
     return sentences
 

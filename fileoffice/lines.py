@@ -22,6 +22,14 @@ def lines_of(text):
     return lines
 
 
+def file_of(lines):
+    text = list(lines[0])
+    for line in lines[1:]:
+        text.append(LINE_END)
+        text.extend(line)
+    return text
+
+
 # The number that tells the fault, or None. Keys are compared only where each line is right by itself.
 def file_fault(lines):
     for number, line in enumerate(lines):
@@ -66,3 +74,16 @@ def key_of(line):
 
 def text_of(line):
     return tuple(line[line.index(EQUALS) + 1:])
+
+
+def line_of(key, text):
+    return list(key) + [EQUALS] + list(text)
+
+
+# By key, in the file's order; the lines must be without fault.
+def texts_of(lines):
+    texts = {}
+    for line in lines:
+        if not is_kept(line):
+            texts[key_of(line)] = text_of(line)
+    return texts

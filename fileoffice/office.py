@@ -8,6 +8,10 @@ NEWER = 1
 LIST = 2
 SENTENCE = 3
 DONE = 4
+UNDONE = 5
+BUILD = 6
+TODO = 7
+KEY = 8
 
 
 def answers(calls):
@@ -29,11 +33,22 @@ def answer_call(desk, reader):
         return desk.lay_newer(reader.take_row())
     if call == LIST:
         return desk.list_sentences()
+    if call == BUILD:
+        return desk.build_file()
+    if call == TODO:
+        return desk.list_undone()
+    if call == KEY:
+        return desk.show_key(reader.take_row())
+    if call in (SENTENCE, DONE, UNDONE):
+        return answer_sentence_call(call, desk, reader)
+    raise ValueError(f"there is no call {call}")
+
+
+def answer_sentence_call(call, desk, reader):
+    number = reader.take_number()
+    key = reader.take_row()
     if call == SENTENCE:
-        number = reader.take_number()
-        return desk.show_sentence(reader.take_row(), number)
+        return desk.show_sentence(key, number)
     if call == DONE:
-        number = reader.take_number()
-        key = reader.take_row()
         return desk.put_translation(key, number, reader.take_row())
-    raise NotImplementedError(f"call {call}")
+    return desk.take_translation_away(key, number)

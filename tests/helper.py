@@ -4,8 +4,8 @@ from fileoffice.office import answers
 
 
 def numbers(text):
-    """A list of numbers as it is; a text as its bytes."""
-    return list(text.encode("latin-1")) if isinstance(text, str) else list(text)
+    """A list of numbers as it is; a text as its signs' numbers, also those that are no bytes."""
+    return [ord(sign) for sign in text] if isinstance(text, str) else list(text)
 
 
 def row(text):
@@ -31,6 +31,22 @@ def sentence(key, number):
 
 def done(key, number, translation):
     return [4, number] + row(key) + row(translation)
+
+
+def undone(key, number):
+    return [5, number] + row(key)
+
+
+def build():
+    return [6]
+
+
+def todo():
+    return [7]
+
+
+def key_texts(key):
+    return [8] + row(key)
 
 
 def joined(calls):
@@ -63,6 +79,16 @@ def shown(text, translation=None):
 def listed(*rows):
     """What list answers, of rows (key, number, size, 1 or 0)."""
     return [len(rows)] + joined([row(key) + rest for key, *rest in rows])
+
+
+def left(*spots):
+    """What todo answers, of spots (key, number)."""
+    return [len(spots)] + joined([row(key) + [number] for key, number in spots])
+
+
+def both(text, built):
+    """What key answers, of a text and of it put together."""
+    return row(text) + row(built)
 
 
 def sentences(text):

@@ -4,7 +4,7 @@ import itertools
 import re
 import unittest
 
-from tests.helper import done, file, last, sentences
+from tests.helper import ask, both, build, done, file, key_texts, last, row, sentences
 
 WHOLE = re.compile(r"[a-z0-9.]+=(\\[nt\\<]|<\d>|</\d>|<\d/>|[^\t\\<])*", re.DOTALL)
 UNDER_WAY = re.compile(r"([a-z0-9.]+(=(\\[nt\\<]|<\d>|</\d>|<\d/>|[^\t\\<])*(\\|<|</|</\d|<\d|<\d/)?)?)?", re.DOTALL)
@@ -64,8 +64,9 @@ class AllShort(unittest.TestCase):
             expected = [-1998]
         else:
             expected = None
-        told = last(file(line))
+        told, built = ask(file(line), build())
         self.assertEqual(told if told[0] < 0 else None, expected, line)
+        self.assertEqual(built, row("" if expected else line), line)
 
     def test_lines(self):
         for signs in rows("a=#<\t", 5):
@@ -85,6 +86,17 @@ class AllShort(unittest.TestCase):
             text = "".join(things)
             if are_right(tags(text)):
                 self.assertEqual(sentences(text), cut(things), text)
+                self.assertEqual("".join(cut(things)), text)
+                self.assertEqual(last(file("k=" + text), key_texts("k")), both(text, text))
+
+    def test_files_of_short_lines(self):
+        for lines in rows(["", "#", "a=", "b=x. y", "#a=x"], 5):
+            text = "\n".join(lines)
+            if lines.count("a=") < 2 and lines.count("b=x. y") < 2:
+                self.assertEqual(last(file(text), build()), row(text))
+                if "b=x. y" in lines:
+                    told = last(file(text), done("b", 1, "z\\n"), build())
+                    self.assertEqual(told, row(text.replace("y", "z\\n")))
 
     def test_translations_have_just_the_tags(self):
         for original in ("", "<1/>", "<1></1>", "<1/><2></2>", "<1></1><2></2>"):
